@@ -712,13 +712,14 @@ func TestTreeAnswersHangOnArgumentsAlone(t *testing.T) {
 	}
 }
 
-func sharesNodes(a []impl.Znode, b []impl.Znode) bool {
+// sharesRoom asks of all the room that two lists have, also of what lies behind their last elements.
+func sharesRoom[A any, B any](a []A, b []B) bool {
 	if cap(a) == 0 || cap(b) == 0 {
 		return false
 	}
-	size := unsafe.Sizeof(impl.Znode{})
+	sizeA, sizeB := unsafe.Sizeof(*new(A)), unsafe.Sizeof(*new(B))
 	fromA, fromB := uintptr(unsafe.Pointer(unsafe.SliceData(a))), uintptr(unsafe.Pointer(unsafe.SliceData(b)))
-	return fromA < fromB+uintptr(cap(b))*size && fromB < fromA+uintptr(cap(a))*size
+	return fromA < fromB+uintptr(cap(b))*sizeB && fromB < fromA+uintptr(cap(a))*sizeA
 }
 
 // ownNodes lays nodes where nothing else lies: their texts are new, and room is left behind them for whoever writes there.
@@ -749,7 +750,7 @@ func TestTreeAnswersAreNewMemory(t *testing.T) {
 		handed := append(textsIn(nodes), c.path)
 		answered := slices.Concat(a.kids.Texts, []string{a.created.Path})
 		for _, z := range a.trees() {
-			if sharesNodes(z.Nodes, nodes) {
+			if sharesRoom(z.Nodes, nodes) {
 				t.Fatalf("of %v and %v: %v shares its nodes", nodes, c, z)
 			}
 			answered = append(answered, textsIn(z.Nodes)...)

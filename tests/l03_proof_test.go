@@ -706,20 +706,34 @@ func TestEveryProofIsAnswered(t *testing.T) {
 	}
 }
 
+// checkAgain asks calls over from the last one on, and more than once: what hangs on something else is seldom the same so often.
+func checkAgain[C any, A any](t *testing.T, calls []C, ask func(C) A, same func(A, A) bool) {
+	t.Helper()
+	var first []A
+	for _, c := range calls {
+		first = append(first, ask(c))
+	}
+	for range 3 {
+		for i, c := range slices.Backward(calls) {
+			if again := ask(c); !same(again, first[i]) {
+				t.Fatalf("of %v: %v, and at first %v", c, again, first[i])
+			}
+		}
+	}
+}
+
+func drawnMany[T any](r *rand.Rand, many int, draw func(*rand.Rand) T) []T {
+	var all []T
+	for range many {
+		all = append(all, draw(r))
+	}
+	return all
+}
+
 // Promise 1: an answer hangs on the arguments alone, so it is the same in whatever order it is asked.
 func TestProofAnswersHangOnArgumentsAlone(t *testing.T) {
 	r := rand.New(rand.NewPCG(8, 8))
-	var calls []proofCall
-	var first []proofAnswers
-	for range 300 {
-		c := drawnProof(r)
-		calls, first = append(calls, c), append(first, programProof(c))
-	}
-	for i := len(calls) - 1; i >= 0; i-- {
-		if again := programProof(calls[i]); !sameProofs(again, first[i]) {
-			t.Fatalf("of %v: %v, and at first %v", calls[i], again, first[i])
-		}
-	}
+	checkAgain(t, drawnMany(r, 300, drawnProof), programProof, sameProofs)
 }
 
 // Promise 1: what is answered is new memory: whoever writes into it, or into what was handed in, turns nothing else.
