@@ -26,6 +26,11 @@ func modelReplicaFault(f int64, ledger []impl.Msg, r impl.Replica) int64 {
 	if code := modelLedgerFault(f, ledger); code != impl.OK {
 		return code
 	}
+	return modelOneFault(f, ledger, r)
+}
+
+// modelOneFault asks of a ledger without a fault.
+func modelOneFault(f int64, ledger []impl.Msg, r impl.Replica) int64 {
 	return modelBroken(
 		modelRule{impl.ErrRange, func() bool {
 			return modelNoReplica(f, r.Id) || modelOutside(r.View, 20) || modelOutside(r.Done, 30)
@@ -33,7 +38,7 @@ func modelReplicaFault(f int64, ledger []impl.Msg, r impl.Replica) int64 {
 		modelRule{impl.ErrForm, func() bool {
 			return r.Start != -1 && (r.View == 0 || !modelRightNew(f, ledger, r.Start) || ledger[r.Start].View != r.View)
 		}},
-		modelRule{impl.ErrState, func() bool { return int(r.Done) > len(modelLog(f, ledger).List) }},
+		modelRule{impl.ErrState, func() bool { return r.Done != 0 && int(r.Done) > len(modelLog(f, ledger).List) }},
 	)
 }
 
