@@ -1257,14 +1257,14 @@ func TestWhoAsksKeepsToWhatItSaid(t *testing.T) {
 }
 
 // answersOf asks all functions, none of which may let a panic out.
-func answersOf(t *testing.T, c replicaCall) replicaAnswers {
+func answersOf[C any, A any](t *testing.T, ask func(C) A, c C) A {
 	t.Helper()
 	defer func() {
 		if why := recover(); why != nil {
 			t.Fatalf("of %.300s: the panic %v", fmt.Sprint(c), why)
 		}
 	}()
-	return programReplica(c)
+	return ask(c)
 }
 
 // Promise 1: every argument has an answer, however long a list is or how odd its numbers are; no panic leaves the package.
@@ -1281,7 +1281,7 @@ func TestEveryReplicaIsAnswered(t *testing.T) {
 				if k%2 == 0 {
 					c.f, c.r = 1+int64(i)%2, impl.Replica{Id: 1 + int64(i)%4, View: int64(j) % 3, Start: []int64{-1, 7, n}[i%3], Done: int64(k) % 3 / 2}
 				}
-				if got, want := answersOf(t, c), modelReplica(c); !sameReplicas(got, want) {
+				if got, want := answersOf(t, programReplica, c), modelReplica(c); !sameReplicas(got, want) {
 					t.Fatalf("of %.300s: %+v, want %+v", fmt.Sprint(c), got, want)
 				}
 			}

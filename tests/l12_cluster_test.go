@@ -76,6 +76,7 @@ func checkCluster(t *testing.T, name string, c impl.Cluster, want int64) {
 			}
 		}
 	}
+	checkNobodyDoes(t, name, c, want)
 }
 
 func TestClusterBounds(t *testing.T) {
@@ -1134,17 +1135,6 @@ func TestTurnsHaveNoFault(t *testing.T) {
 	}
 }
 
-// clusterAnswersOf asks all functions, none of which may let a panic out.
-func clusterAnswersOf(t *testing.T, c clusterCall) clusterAnswers {
-	t.Helper()
-	defer func() {
-		if why := recover(); why != nil {
-			t.Fatalf("of %.300s: the panic %v", fmt.Sprint(c), why)
-		}
-	}()
-	return programCluster(c)
-}
-
 // Promise 1: every argument has an answer, however long a list is or how odd its numbers are; no panic leaves the package.
 func TestEveryClusterIsAnswered(t *testing.T) {
 	far := []int64{math.MinInt64, -1, 0, 1, 2, 3, 4, 5, 7, 8, 12, 13, 20, 21, 240, math.MaxInt64}
@@ -1168,7 +1158,7 @@ func TestEveryClusterIsAnswered(t *testing.T) {
 				if k%5 == 0 {
 					c.m, c.c.Replicas = list, slices.Repeat(c.c.Replicas, 1+k%2*99)
 				}
-				if got, want := clusterAnswersOf(t, c), modelCluster(c); !sameClusterAnswers(got, want) {
+				if got, want := answersOf(t, programCluster, c), modelCluster(c); !sameClusterAnswers(got, want) {
 					t.Fatalf("of %.300s: %+v, want %+v", fmt.Sprint(c), got, want)
 				}
 			}

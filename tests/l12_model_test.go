@@ -381,6 +381,23 @@ func spoiltRequests(r *rand.Rand, list []impl.Request) []impl.Request {
 	return list
 }
 
+// spoiltCluster turns one thing of a cluster, most often into a fault; what is handed in stays as it is.
+func spoiltCluster(r *rand.Rand, c impl.Cluster) impl.Cluster {
+	switch r.IntN(6) {
+	case 0:
+		c.F = drawn(r, []int64{0, 1, 2, 3})
+	case 1:
+		c.Ledger = spoiltLedger(r, c.Ledger)
+	case 2:
+		c.Bad = spoiltList(r, c.Bad)
+	case 3, 4:
+		c.Replicas = spoiltReplicas(r, c.Replicas, int64(len(c.Ledger)))
+	case 5:
+		c.Requests = spoiltRequests(r, c.Requests)
+	}
+	return c
+}
+
 // drawnClusterCall draws a call in which some is turned, most often into a fault.
 func drawnClusterCall(r *rand.Rand) clusterCall {
 	c := drawnFineCluster(r)
@@ -388,16 +405,8 @@ func drawnClusterCall(r *rand.Rand) clusterCall {
 	for range r.IntN(4) {
 		at := drawn(r, []int64{-2, -1, 0, many - 1, many, many + 1, r.Int64N(many + 1)})
 		switch r.IntN(20) {
-		case 0:
-			c.c.F = drawn(r, []int64{0, 1, 2, 3})
-		case 1:
-			c.c.Ledger = spoiltLedger(r, c.c.Ledger)
-		case 2:
-			c.c.Bad = spoiltList(r, c.c.Bad)
-		case 3, 4:
-			c.c.Replicas = spoiltReplicas(r, c.c.Replicas, many)
-		case 5:
-			c.c.Requests = spoiltRequests(r, c.c.Requests)
+		case 0, 1, 2, 3, 4, 5:
+			c.c = spoiltCluster(r, c.c)
 		case 6:
 			c.f = drawn(r, []int64{0, 1, 2, 3})
 		case 7, 8:
