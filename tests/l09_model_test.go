@@ -97,17 +97,24 @@ func modelDecided(f int64, ledger []impl.Msg, slot int64) impl.IntsResult {
 	return impl.IntsResult{List: modelTallyOf(ledger).decided(f, slot)}
 }
 
-// modelLog takes the first value of all slots, -1 where there is none, and cuts that at the first -1.
 func modelLog(f int64, ledger []impl.Msg) impl.IntsResult {
 	if code := modelLedgerFault(f, ledger); code != impl.OK {
 		return impl.IntsResult{Code: code}
 	}
+	return impl.IntsResult{List: modelLogIn(f, ledger)}
+}
+
+// modelLogIn takes the first value of all slots, -1 where there is none, and cuts that at the first -1; it is asked of a ledger without a fault.
+func modelLogIn(f int64, ledger []impl.Msg) []int64 {
 	tally := modelTallyOf(ledger)
-	var log []int64
-	for slot := int64(1); slot <= 31; slot++ {
-		log = append(log, append(tally.decided(f, slot), -1)[0])
+	firsts := slices.Repeat([]int64{-1}, 31)
+	for what := range tally {
+		if what.kind == 3 && tally.enough(f, 3, what.view, what.slot, what.value) {
+			first := &firsts[what.slot-1]
+			*first = int64(min(uint64(*first), uint64(what.value)))
+		}
 	}
-	return impl.IntsResult{List: log[:slices.Index(log, -1)]}
+	return firsts[:slices.Index(firsts, -1)]
 }
 
 // quorumCall holds what chapter 9 is asked with.

@@ -38,7 +38,7 @@ func modelOneFault(f int64, ledger []impl.Msg, r impl.Replica) int64 {
 		modelRule{impl.ErrForm, func() bool {
 			return r.Start != -1 && (r.View == 0 || !modelRightNew(f, ledger, r.Start) || ledger[r.Start].View != r.View)
 		}},
-		modelRule{impl.ErrState, func() bool { return r.Done != 0 && int(r.Done) > len(modelLog(f, ledger).List) }},
+		modelRule{impl.ErrState, func() bool { return r.Done != 0 && int(r.Done) > len(modelLogIn(f, ledger)) }},
 	)
 }
 

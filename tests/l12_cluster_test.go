@@ -77,6 +77,8 @@ func checkCluster(t *testing.T, name string, c impl.Cluster, want int64) {
 		}
 	}
 	checkNobodyDoes(t, name, c, want)
+	checkNobodyTells(t, name, c, want)
+	checkNobodyAudits(t, name, c, want)
 }
 
 func TestClusterBounds(t *testing.T) {

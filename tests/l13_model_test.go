@@ -17,7 +17,7 @@ type modelPage struct {
 // modelBook has one page ahead of all slots; it is asked of a cluster without a fault.
 func modelBook(c impl.Cluster) []modelPage {
 	book := []modelPage{{came: modelNewState(0)}}
-	for _, value := range modelLog(c.F, c.Ledger).List {
+	for _, value := range modelLogIn(c.F, c.Ledger) {
 		page := book[len(book)-1]
 		page.value = value
 		switch {
