@@ -14,9 +14,16 @@ import (
 // checkNobodyAudits asks of a cluster with a fault: all tell that alone.
 func checkNobodyAudits(t *testing.T, name string, c impl.Cluster, fault int64) {
 	t.Helper()
-	want := auditAnswers{noCluster(fault), impl.IntResult{Code: fault}}
+	want := auditAnswers{drained: noCluster(fault), view: impl.IntResult{Code: fault}}
 	if got := programAudit(c); !sameAudits(got, want) {
 		t.Errorf("%s, of %.300s: %+v, want the code %d alone", name, fmt.Sprint(c), got, fault)
+	}
+	// Not even where a client believes nothing.
+	lies := [][]impl.Vote{nil, sayings(withValue(1), 4), sayings(codeAt(11, -2), 0, 8), make([]impl.Vote, 41)}
+	for at, asked := range []int64{1, 0, 10, 100} {
+		if impl.TrueRight(c, asked, asked, lies[at]) {
+			t.Errorf("%s, of %.300s: true, in spite of the code %d", name, fmt.Sprint(c), fault)
+		}
 	}
 }
 
@@ -370,7 +377,7 @@ func TestDrainCOfWhoDoesNoMore(t *testing.T) {
 func TestAuditsAreWhatTheModelTells(t *testing.T) {
 	r := rand.New(rand.NewPCG(95, 95))
 	codes := map[int64]int{}
-	sent, done, faults := 0, 0, 0
+	sent, done, faults, unsafe, dishonest := 0, 0, 0, 0, 0
 	for range 900 {
 		c := drawnAudit(r)
 		got, want := programAudit(c), modelAudit(c)
@@ -382,6 +389,12 @@ func TestAuditsAreWhatTheModelTells(t *testing.T) {
 			continue
 		}
 		codes[got.drained.Code]++
+		if !got.safe {
+			unsafe++
+		}
+		if !got.honest {
+			dishonest++
+		}
 		if got.drained.Code == impl.OK {
 			sent += len(got.drained.Cluster.Ledger) - len(c.Ledger)
 			for at, one := range got.drained.Cluster.Replicas {
@@ -394,8 +407,8 @@ func TestAuditsAreWhatTheModelTells(t *testing.T) {
 			t.Errorf("the code %d was told only %d times", code, codes[code])
 		}
 	}
-	if sent < 6000 || done < 2000 || faults < 100 {
-		t.Errorf("only %d messages were sent, %d slots done, and %d had a fault", sent, done, faults)
+	if sent < 6000 || done < 2000 || faults < 100 || unsafe < 10 || dishonest < 100 {
+		t.Errorf("only %d messages were sent, %d slots done, %d had a fault, %d were not safe, %d not honest", sent, done, faults, unsafe, dishonest)
 	}
 }
 
@@ -524,13 +537,14 @@ func TestWhatIsDrained(t *testing.T) {
 }
 
 // Promise 1: nothing runs on when a call has answered, with a code in the midst or not.
-func TestNothingRunsOnBehindDrainC(t *testing.T) {
+func TestNothingRunsOnBehindAudits(t *testing.T) {
 	full := saying(clusterOf(1, 12, nil, 4), chatter(200, 4)...)
 	calls := []impl.Cluster{clusterOf(1, 12, nil, 4), clusterOf(2, 12, nil), full, saying(clusterOf(1, 12, nil, 4), said(1, 1, 2, 3, 3)), clusterOf(1, 0, nil)}
 	before := runtime.NumGoroutine()
 	for range 40 {
 		for _, c := range calls {
-			impl.DrainC(c)
+			programAudit(c)
+			impl.TrueRight(c, 1, 1, nil)
 			if now := runtime.NumGoroutine(); now > before {
 				t.Fatalf("%d run, and %d ran ahead", now, before)
 			}

@@ -1,8 +1,10 @@
 package tests
 
 import (
+	"fmt"
 	"math/rand/v2"
 	"slices"
+	"strings"
 
 	"loop.example/g00369/impl"
 )
@@ -115,22 +117,99 @@ func modelDrainC(c impl.Cluster) impl.ClusterResult {
 	return clusterResult(d.c)
 }
 
-// auditAnswers holds what chapter 15 says of one cluster.
+// modelSafe lets the first value that enough have committed hold a slot; no other one may come there.
+func modelSafe(c impl.Cluster) bool {
+	tally, held := modelTallyOf(c.Ledger), map[int64]int64{}
+	for said := range tally {
+		if said.kind != impl.MsgCommit || !tally.enough(c.F, said.kind, said.view, said.slot, said.value) {
+			continue
+		}
+		if value, has := held[said.slot]; has && value != said.value {
+			return false
+		}
+		held[said.slot] = said.value
+	}
+	return true
+}
+
+// modelHonest writes down what each that is not bad said, but for the values; when that is sorted, what was said twice stands side by side.
+func modelHonest(c impl.Cluster) bool {
+	var lines []string
+	for at, m := range c.Ledger {
+		switch {
+		case slices.Contains(c.Bad, m.From) || m.Kind == impl.MsgNew:
+		case m.Kind != impl.MsgChange:
+			lines = append(lines, fmt.Sprint(m.Kind, m.View, m.From, m.Slot))
+		case !modelRightChange(c.F, c.Ledger, int64(at)):
+			return false
+		}
+	}
+	many := len(lines)
+	slices.Sort(lines)
+	return len(slices.Compact(lines)) == many
+}
+
+// modelAlike holds the story of each against the longest one.
+func modelAlike(c impl.Cluster, book []modelPage) bool {
+	var stories []string
+	longest := ""
+	for _, one := range c.Replicas {
+		story := ""
+		for _, value := range modelValues(book[1 : one.Done+1]) {
+			story += fmt.Sprintf("%d, ", value)
+		}
+		stories = append(stories, story)
+		if len(story) > len(longest) {
+			longest = story
+		}
+	}
+	return !slices.ContainsFunc(stories, func(story string) bool { return !strings.HasPrefix(longest, story) })
+}
+
+// modelTrue looks up what is believed where the one who has read most has come to in its book.
+func modelTrue(c voteCall) bool {
+	if modelClusterFault(c.c) != impl.OK {
+		return false
+	}
+	believed := modelAskC(c.c, modelGatherC(c.c, c.client, c.number), c.lies)
+	if believed.Code != impl.OK {
+		return true
+	}
+	most := int64(0)
+	for _, one := range c.c.Replicas {
+		most = max(most, one.Done)
+	}
+	told := modelReply(modelBook(c.c)[most], c.client, c.number)
+	return told.Code == impl.OK && told.Reply == believed.Reply
+}
+
+func programTrue(c voteCall) bool {
+	return impl.TrueRight(c.c, c.client, c.number, c.lies)
+}
+
+// auditAnswers holds what chapter 15 says of one cluster, whatever a client asks.
 type auditAnswers struct {
 	drained impl.ClusterResult
 	view    impl.IntResult
+	safe    bool
+	honest  bool
+	alike   bool
 }
 
 func programAudit(c impl.Cluster) auditAnswers {
-	return auditAnswers{impl.DrainC(c), impl.ViewFor(c)}
+	return auditAnswers{impl.DrainC(c), impl.ViewFor(c), impl.SafeRight(c), impl.HonestRight(c), impl.AlikeRight(c)}
 }
 
 func modelAudit(c impl.Cluster) auditAnswers {
-	return auditAnswers{modelDrainC(c), modelViewFor(c)}
+	a := auditAnswers{drained: modelDrainC(c), view: modelViewFor(c)}
+	if modelClusterFault(c) == impl.OK {
+		a.safe, a.honest, a.alike = modelSafe(c), modelHonest(c), modelAlike(c, modelBook(c))
+	}
+	return a
 }
 
 func sameAudits(a auditAnswers, b auditAnswers) bool {
-	return sameTold(a.drained, b.drained) && a.view == b.view
+	return sameTold(a.drained, b.drained) && a.view == b.view && a.safe == b.safe && a.honest == b.honest && a.alike == b.alike
 }
 
 // drawnGrown draws a cluster that came of a new one by what it may do, with lies of those who are bad.
