@@ -55,6 +55,7 @@ func checkTreeFaults(t *testing.T, cases []faultCase) {
 		if got := impl.TreeFault(c.nodes); got != c.want {
 			t.Errorf("%s: TreeFault %d, want %d", c.name, got, c.want)
 		}
+		checkTreeText(t, c.name, c.nodes, c.want)
 	}
 }
 
@@ -492,6 +493,7 @@ func TestSameTrees(t *testing.T) {
 }
 
 func TestTreesAreWhatTheModelTells(t *testing.T) {
+	t.Parallel()
 	r := rand.New(rand.NewPCG(2, 1))
 	seen := map[int64]int{}
 	for range 4000 {

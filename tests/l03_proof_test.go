@@ -574,6 +574,7 @@ func TestLeafSumTellsPathsApart(t *testing.T) {
 }
 
 func TestProofsAreWhatTheModelTells(t *testing.T) {
+	t.Parallel()
 	seen := map[int64]int{}
 	taken := map[bool]int{}
 	r := rand.New(rand.NewPCG(3, 1))

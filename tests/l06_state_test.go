@@ -971,6 +971,7 @@ func TestRootIn(t *testing.T) {
 }
 
 func TestStatesAreWhatTheModelTells(t *testing.T) {
+	t.Parallel()
 	r := rand.New(rand.NewPCG(25, 1))
 	faults, ops, dids, dones := map[int64]int{}, map[int64]int{}, map[int64]int{}, map[int64]int{}
 	for range 8000 {

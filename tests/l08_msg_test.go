@@ -869,6 +869,7 @@ func TestSameMsgs(t *testing.T) {
 }
 
 func TestMsgsAreWhatTheModelTells(t *testing.T) {
+	t.Parallel()
 	r := rand.New(rand.NewPCG(44, 1))
 	faults, ledgers, puts, sent := map[int64]int{}, map[int64]int{}, map[int64]int{}, map[int64]int{}
 	kinds, same, there := map[int64]int{}, 0, 0
@@ -1026,6 +1027,7 @@ func TestPutLedgersHaveNoFault(t *testing.T) {
 
 // Two messages have one text just where they are the same, if neither has a fault.
 func TestMsgTextTellsMessagesApart(t *testing.T) {
+	t.Parallel()
 	r := rand.New(rand.NewPCG(48, 48))
 	same, other := 0, 0
 	for range 6000 {
@@ -1053,6 +1055,7 @@ func TestMsgTextTellsMessagesApart(t *testing.T) {
 
 // Promise 1: every argument has an answer, however long a list is or how odd its numbers are.
 func TestEveryMsgIsAnswered(t *testing.T) {
+	t.Parallel()
 	far := []int64{math.MinInt64, -1, 0, 1, 2, 4, 5, 7, 12, 30, 31, 240, math.MaxInt64}
 	lists := [][]int64{nil, {}, {math.MinInt64}, {math.MaxInt64}, {math.MinInt64, math.MaxInt64}, {0, math.MaxInt64, math.MinInt64}, make([]int64, 1<<12)}
 	for i, kind := range far {
@@ -1138,6 +1141,7 @@ func wipeLedger(ledger []impl.Msg) {
 
 // Promise 1: what is answered shares no memory with what is handed in, nor two lists of one answer with each other.
 func TestMsgAnswersAreNewMemory(t *testing.T) {
+	t.Parallel()
 	r := rand.New(rand.NewPCG(50, 50))
 	put := 0
 	for range 2500 {

@@ -635,6 +635,7 @@ func TestLogOfManySlots(t *testing.T) {
 }
 
 func TestQuorumsAreWhatTheModelTells(t *testing.T) {
+	t.Parallel()
 	r := rand.New(rand.NewPCG(52, 1))
 	codes := map[string]map[int64]int{"votes": {}, "decided": {}, "log": {}}
 	voters, logs, values := map[int]int{}, map[int]int{}, map[int]int{}
@@ -839,6 +840,7 @@ func TestLogsGrow(t *testing.T) {
 
 // Promise 1: every argument has an answer, however long a list is or how odd its numbers are.
 func TestEveryQuorumIsAnswered(t *testing.T) {
+	t.Parallel()
 	far := []int64{math.MinInt64, -1, 0, 1, 2, 3, 4, 5, 7, 12, 20, 21, 30, 31, 240, math.MaxInt64}
 	enough := ledgerOf(prepares(1, 1, 1, 1, 2, 3, 4), commits(1, 1, 1, 1, 2, 3, 4))
 	for i, f := range far {
@@ -886,6 +888,7 @@ func sharesWithCall(list []int64, q quorumCall) bool {
 
 // Promise 1: what is answered shares no memory with what is handed in, nor one answer with another.
 func TestQuorumAnswersAreNewMemory(t *testing.T) {
+	t.Parallel()
 	r := rand.New(rand.NewPCG(57, 57))
 	told := 0
 	for range 2000 {

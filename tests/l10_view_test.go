@@ -721,6 +721,7 @@ func TestCertsOf(t *testing.T) {
 }
 
 func TestViewsAreWhatTheModelTells(t *testing.T) {
+	t.Parallel()
 	r := rand.New(rand.NewPCG(60, 1))
 	codes := map[string]map[int64]int{"changes": {}, "pick": {}, "certs": {}}
 	told := map[string]int{}
@@ -811,6 +812,7 @@ func TestNewViewTakesOverTheNewest(t *testing.T) {
 
 // Promise 11: what ChangesFor tells are places of changes that are right, of that View, no two of one From, 2f+1 at most; and none that is right is left out as long as there are fewer.
 func TestChangesAreRightAndEachOfAnother(t *testing.T) {
+	t.Parallel()
 	r := rand.New(rand.NewPCG(62, 62))
 	enough, fewer := 0, 0
 	for range 2500 {
@@ -849,6 +851,7 @@ func TestChangesAreRightAndEachOfAnother(t *testing.T) {
 
 // Promise 11: a view begins just with enough changes that are right, each of another one: a MsgNew of the primary whose Refs are what ChangesFor tells is right just where these are 2f+1; and whatever is right has so many.
 func TestViewBeginsJustWithEnough(t *testing.T) {
+	t.Parallel()
 	r := rand.New(rand.NewPCG(63, 63))
 	begins, not, right := 0, 0, 0
 	for range 2500 {
@@ -983,6 +986,7 @@ func viewsApart(a viewAnswers, b viewAnswers) bool {
 
 // Promise 1: what is answered shares no memory with what is handed in, nor one answer with another.
 func TestViewAnswersAreNewMemory(t *testing.T) {
+	t.Parallel()
 	r := rand.New(rand.NewPCG(65, 65))
 	told := 0
 	for range 2000 {

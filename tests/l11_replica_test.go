@@ -901,6 +901,7 @@ func TestNewMsgCountsChanges(t *testing.T) {
 }
 
 func TestReplicasAreWhatTheModelTells(t *testing.T) {
+	t.Parallel()
 	r := rand.New(rand.NewPCG(67, 1))
 	codes := map[string]map[int64]int{"fault": {}, "propose": {}, "prepare": {}, "commit": {}, "change": {}, "begin": {}}
 	told := map[string]int{}
@@ -962,6 +963,7 @@ func hasSaid(ledger []impl.Msg, r impl.Replica, kind int64, slot int64) bool {
 
 // Promise 12: what may be prepared was proposed by the primary, rightly, and is not prepared yet; and all of that may be.
 func TestPreparedWasProposedRightly(t *testing.T) {
+	t.Parallel()
 	r := rand.New(rand.NewPCG(68, 68))
 	codes := map[int64]int{}
 	for range 500 {
@@ -1043,6 +1045,7 @@ func TestCommittedWasPreparedByEnough(t *testing.T) {
 
 // Promise 12: who leaves a view tells all that it committed ahead of the next, each slot by its newest, and nothing else.
 func TestWhoLeavesTellsAllThatItCommitted(t *testing.T) {
+	t.Parallel()
 	r := rand.New(rand.NewPCG(70, 70))
 	told, rivals := 0, 0
 	for range 2000 {
@@ -1084,6 +1087,7 @@ func TestWhoLeavesTellsAllThatItCommitted(t *testing.T) {
 
 // What NewMsg tells is right as soon as it stands in the ledger, and who told it may begin there.
 func TestWhatBeginsAViewIsRight(t *testing.T) {
+	t.Parallel()
 	r := rand.New(rand.NewPCG(71, 71))
 	begins := 0
 	for range 2500 {
@@ -1212,6 +1216,7 @@ func (n *run) lie() {
 
 // Promise 12, in runs of whole clusters: who asks ahead of all that it says never says two things of one slot in one view, what it tells when it leaves is right, and no slot is decided twice.
 func TestWhoAsksKeepsToWhatItSaid(t *testing.T) {
+	t.Parallel()
 	r := rand.New(rand.NewPCG(72, 72))
 	told := map[int64]int{}
 	decided, later := 0, 0
@@ -1309,6 +1314,7 @@ func sharesWithLedger(m impl.Msg, ledger []impl.Msg) bool {
 
 // Promise 1: what is answered shares no memory with what is handed in, nor one answer with another.
 func TestReplicaAnswersAreNewMemory(t *testing.T) {
+	t.Parallel()
 	r := rand.New(rand.NewPCG(74, 74))
 	told := 0
 	for range 1200 {

@@ -79,6 +79,7 @@ func checkCluster(t *testing.T, name string, c impl.Cluster, want int64) {
 	checkNobodyDoes(t, name, c, want)
 	checkNobodyTells(t, name, c, want)
 	checkNobodyAudits(t, name, c, want)
+	checkNobodyWrites(t, name, c, want)
 }
 
 func TestClusterBounds(t *testing.T) {
@@ -877,6 +878,7 @@ func TestNothingIsSentToAFullLedger(t *testing.T) {
 }
 
 func TestClustersAreWhatTheModelTells(t *testing.T) {
+	t.Parallel()
 	r := rand.New(rand.NewPCG(76, 1))
 	faults := map[int64]int{}
 	var codes [len(clusterFaces)]map[int64]int

@@ -431,6 +431,7 @@ func TestExecInAnyView(t *testing.T) {
 }
 
 func TestExecIsWhatTheModelTells(t *testing.T) {
+	t.Parallel()
 	r := rand.New(rand.NewPCG(82, 82))
 	var codes [6]map[int64]int
 	for at := range codes {
@@ -498,6 +499,7 @@ func checkNext(t *testing.T, before impl.Cluster, one impl.Replica, after impl.C
 
 // Promise 14: what is done is the next one of the log, and never more than it; what it comes to is what the state was ahead of it, with that request.
 func TestDoneIsTheNextOfTheLog(t *testing.T) {
+	t.Parallel()
 	r := rand.New(rand.NewPCG(83, 83))
 	did, ended, beyond := 0, 0, 0
 	for range 150 {
@@ -540,6 +542,7 @@ func TestDoneIsTheNextOfTheLog(t *testing.T) {
 
 // Promise 14, whatever else is done between: what a replica has done is always the begin of the log, and of two that have done some the one begins with the other.
 func TestDoneIsAlwaysTheBeginOfTheLog(t *testing.T) {
+	t.Parallel()
 	r := rand.New(rand.NewPCG(84, 84))
 	did := map[string]int{}
 	for range 40 {

@@ -474,6 +474,7 @@ func TestAskCOfAStory(t *testing.T) {
 }
 
 func TestVotesAreWhatTheModelTells(t *testing.T) {
+	t.Parallel()
 	r := rand.New(rand.NewPCG(88, 88))
 	var codes [6]map[int64]int
 	for at := range codes {
@@ -554,6 +555,7 @@ func TestWhatIsBelievedEnoughHaveSaid(t *testing.T) {
 
 // Promise 15: each that has done a request tells the client of it, with what it comes to, and nobody else does; what a client believes of it one that is not bad has done.
 func TestWhoHasDoneItTells(t *testing.T) {
+	t.Parallel()
 	r := rand.New(rand.NewPCG(90, 90))
 	told, believed, unbelieved := 0, 0, 0
 	for range 500 {
@@ -700,6 +702,7 @@ func drawnOwnVoteCall(r *rand.Rand) voteCall {
 
 // Promise 1: what is answered shares no memory with what is handed in, nor one answer with another, nor two things of one.
 func TestVoteAnswersAreNewMemory(t *testing.T) {
+	t.Parallel()
 	r := rand.New(rand.NewPCG(93, 93))
 	things := 0
 	for range 600 {
@@ -729,6 +732,7 @@ func TestVoteAnswersAreNewMemory(t *testing.T) {
 
 // Promise 1: no call changes the cluster, its lists, or the votes, nor what lies behind them.
 func TestVoteArgumentsStayAsTheyAre(t *testing.T) {
+	t.Parallel()
 	r := rand.New(rand.NewPCG(94, 94))
 	for range 600 {
 		c := drawnOwnVoteCall(r)

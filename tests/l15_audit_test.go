@@ -255,6 +255,7 @@ func TestDrainCWithTooFewChanges(t *testing.T) {
 
 // A value that is taken over and is above all requests is told ErrNone, wherever it stands.
 func TestDrainCAsksForTheRequests(t *testing.T) {
+	t.Parallel()
 	for _, f := range []int64{1, 2} {
 		all := firstOnes(2*f + 1)
 		for slot := int64(1); slot <= 3; slot++ {
@@ -274,6 +275,7 @@ func TestDrainCAsksForTheRequests(t *testing.T) {
 
 // In the last slot there is room for what is taken over; behind it for nothing.
 func TestDrainCUpToTheLastSlot(t *testing.T) {
+	t.Parallel()
 	for slot := int64(1); slot <= 30; slot++ {
 		for many := range 5 {
 			c := clusterOf(1, many, ledgerOf(prepares(0, slot, 0, 1, 2, 3), commits(0, slot, 0, 2)), 4)
@@ -375,6 +377,7 @@ func TestDrainCOfWhoDoesNoMore(t *testing.T) {
 }
 
 func TestAuditsAreWhatTheModelTells(t *testing.T) {
+	t.Parallel()
 	r := rand.New(rand.NewPCG(95, 95))
 	codes := map[int64]int{}
 	sent, done, faults, unsafe, dishonest := 0, 0, 0, 0, 0
@@ -554,6 +557,7 @@ func TestNothingRunsOnBehindAudits(t *testing.T) {
 
 // Promise 1: every argument has an answer, however long a list is or how odd its numbers are; no panic leaves the package.
 func TestEveryAuditIsAnswered(t *testing.T) {
+	t.Parallel()
 	far := []int64{math.MinInt64, -1, 0, 1, 2, 4, 8, 12, 13, 19, 20, 21, math.MaxInt64}
 	for i, n := range far {
 		for j, other := range far {
@@ -584,6 +588,7 @@ func TestAuditAnswersHangOnArgumentsAlone(t *testing.T) {
 
 // Promise 1: what is answered shares no memory with what is handed in, nor one answer with another, nor two lists of one.
 func TestAuditAnswersAreNewMemory(t *testing.T) {
+	t.Parallel()
 	r := rand.New(rand.NewPCG(99, 99))
 	lists := 0
 	for range 250 {

@@ -448,6 +448,7 @@ func drawnTruth(r *rand.Rand) voteCall {
 }
 
 func TestTrueRightIsWhatTheModelTells(t *testing.T) {
+	t.Parallel()
 	r := rand.New(rand.NewPCG(101, 101))
 	codes := map[int64]int{}
 	faults, untrue := 0, 0
@@ -497,6 +498,7 @@ func drawnRight(r *rand.Rand) impl.Cluster {
 }
 
 func TestRightsAreWhatTheModelTells(t *testing.T) {
+	t.Parallel()
 	r := rand.New(rand.NewPCG(102, 102))
 	told := map[[2]bool]int{}
 	for range 800 {

@@ -232,6 +232,7 @@ func (n *schemer) drain(t *testing.T) int {
 
 // Promise 16: four of which at most one is bad, up to 60 steps from a new cluster on.
 func TestFourTellOneStory(t *testing.T) {
+	t.Parallel()
 	r := rand.New(rand.NewPCG(104, 104))
 	did := map[string]int{}
 	decided, late, parted, forged, drained, believes := 0, 0, 0, 0, 0, 0
